@@ -33,48 +33,6 @@ var varintCases = []struct {
 
 var unencodable = []int{-1, -2, -128, -300, impl.MaxValue + 1, 2 * impl.MaxValue, 1 << 42, math.MaxInt, math.MinInt, math.MinInt + 1}
 
-// spare returns b with room behind it, which holds a pattern.
-func spare(b []byte) []byte {
-	s := append(slices.Clone(b), bytes.Repeat([]byte{0xEE}, 64)...)
-	return s[:len(b)]
-}
-
-// spareInts is spare for integers.
-func spareInts(l []int) []int {
-	s := append(slices.Clone(l), slices.Repeat([]int{-77}, 64)...)
-	return s[:len(l)]
-}
-
-// fill overwrites all memory of s, also what is behind its end.
-func fill[E any](s []E, e E) {
-	for i := range s[:cap(s)] {
-		s[:cap(s)][i] = e
-	}
-}
-
-// checkApart checks that arg, up to its capacity, keeps its content during call and while call's result is overwritten, and that the result does not change with arg.
-func checkApart[A, R comparable](t *testing.T, name string, arg []A, a A, r R, call func() []R) {
-	t.Helper()
-	before := slices.Clone(arg[:cap(arg)])
-	first, second := call(), call()
-	if !slices.Equal(before, arg[:cap(arg)]) {
-		t.Errorf("%s writes into its argument", name)
-	}
-	want := slices.Clone(second)
-	fill(first, r)
-	if !slices.Equal(before, arg[:cap(arg)]) {
-		t.Errorf("the result of %s shares memory with its argument", name)
-	}
-	if !slices.Equal(second, want) {
-		t.Errorf("two results of %s share memory", name)
-	}
-	fill(arg, a)
-	if !slices.Equal(second, want) {
-		t.Errorf("the result of %s changes with its argument", name)
-	}
-	copy(arg[:cap(arg)], before)
-}
-
 func checkReadUvarint(t *testing.T, b []byte, offset int, n int, next int, ok bool) {
 	t.Helper()
 	if gotN, gotNext, gotOk := impl.ReadUvarint(b, offset); gotN != n || gotNext != next || gotOk != ok {
