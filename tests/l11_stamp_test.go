@@ -316,6 +316,18 @@ func TestStampSpan(t *testing.T) {
 	}
 }
 
+// Neither the Id nor the Key of the authority has to be valid, and of equal Ids the first one counts.
+func TestStampSpanOfOddAuthorities(t *testing.T) {
+	checkStampSpan(t, oddAuthorities, stamp(-2, 0, 9, 7), span(8, 10), true)
+	checkStampSpan(t, oddAuthorities, stamp(math.MinInt, 0, 9, 7), span(7, 11), true)
+	checkStampSpan(t, oddAuthorities, stamp(100, 0, 200, 7), span(99, 301), true)
+	checkStampSpan(t, oddAuthorities, stamp(7, 0, 9, 7), span(4, 14), true)
+	checkStampSpan(t, oddAuthorities[1:], stamp(7, 0, 9, 7), span(3, 15), true)
+	checkStampSpan(t, oddAuthorities, stamp(3, 0, 9, 7), impl.Span{}, false)
+	checkStampSpan(t, oddAuthorities[2:], stamp(3, 0, 9, 7), span(5, 13), true)
+	checkStampSpan(t, oddAuthorities, stamp(6, 0, 9, 7), impl.Span{}, false)
+}
+
 func TestStampSpanThatThereIsNot(t *testing.T) {
 	none := span(0, 0)
 	for _, time := range []int{-1, -2, impl.MaxTime + 1, impl.MaxTime + 2, math.MinInt, math.MaxInt} {
