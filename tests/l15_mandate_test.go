@@ -97,11 +97,6 @@ func TestMandateInts(t *testing.T) {
 		t.Errorf("MandateInts = %v", got)
 	}
 	mandates.checkInts(t, impl.MandateInts, append(slices.Clone(someMandates), impl.Mandate{}, mandate(-1, math.MinInt, math.MaxInt, -9, 1000)))
-	// The mark does not stand behind it either.
-	l := impl.MandateInts(impl.Mandate{Mark: 7})
-	if slices.Contains(l[:cap(l)], 7) {
-		t.Errorf("behind MandateInts stands %v", l[:cap(l)])
-	}
 }
 
 func TestMakeMandate(t *testing.T) {

@@ -293,6 +293,24 @@ func TestBoundsOfOtherDocuments(t *testing.T) {
 	}
 }
 
+// A leaf that there is not is -1 by the definition, so that a renewal of the root -1 covers it.
+func TestRenewalOfALeafThatThereIsNot(t *testing.T) {
+	f := centuryFrame(90, 0)
+	s := impl.Strand{Pieces: numbered(3), Chain: []impl.Renewal{renewalBy(4, 2, -1, 20, 3)}}
+	for _, docs := range [][]int{{5}, nil, {5, 6}} {
+		checkFault(t, s, docs, 1)
+		if got := impl.BoundOf(f, s, docs, 0); got != 20 || !impl.IsUnbroken(f, s, docs) {
+			t.Errorf("BoundOf with the digests %v = %d", docs, got)
+		}
+		checkStrand(t, f, s, docs)
+	}
+	// With such a Count, no strand is valid; with another one, there is a leaf, unless there are no digests for it.
+	checkIsStrand(t, s, false)
+	s.Chain[0].Count = 3
+	checkFault(t, s, []int{5}, 0)
+	checkFault(t, s, nil, 1)
+}
+
 func TestPieceBound(t *testing.T) {
 	f := centuryFrame(90, 0)
 	s := covering(renewAt(1, 2, 20, 3), renewAt(2, 2, 30, 3))

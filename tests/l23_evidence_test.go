@@ -361,6 +361,7 @@ func TestJoinEvidenceOfSimilarStrands(t *testing.T) {
 		{Chain: []impl.Renewal{{Stamps: []impl.Stamp{{}}}}}, {Chain: []impl.Renewal{{Stamps: []impl.Stamp{{Authority: 1}}}}}, {Chain: []impl.Renewal{{Stamps: []impl.Stamp{{Seq: 1}}}}}, {Chain: []impl.Renewal{{Stamps: []impl.Stamp{{Time: 1}}}}}, {Chain: []impl.Renewal{{Stamps: []impl.Stamp{{Digest: 1}}}}}, {Chain: []impl.Renewal{{Stamps: []impl.Stamp{{Mark: 1}}}}},
 		{Chain: []impl.Renewal{{Stamps: []impl.Stamp{{}, {}}}}}, {Chain: []impl.Renewal{{Path: []impl.Step{{}, {}, {}}}}}, {Chain: []impl.Renewal{{Path: []impl.Step{{}, {}, {}, {}, {}}}}}, {Chain: []impl.Renewal{{Path: []impl.Step{{Digest: 1}}, Stamps: []impl.Stamp{{}}}}},
 		{Chain: []impl.Renewal{{Path: []impl.Step{right(1), {Digest: 103}, {}}}}}, {Pieces: []impl.Piece{piece(math.MinInt, math.MaxInt)}}, {Pieces: []impl.Piece{piece(math.MaxInt, math.MinInt)}},
+		{Pieces: []impl.Piece{piece(4, 5), piece(6, 0)}}, {Chain: []impl.Renewal{{Count: 5, Root: 6}}},
 	}
 	for i, a := range similar {
 		for j, b := range similar {
@@ -378,6 +379,20 @@ func TestJoinEvidenceOfSimilarStrands(t *testing.T) {
 	lists := [][]impl.Stamp{nil, {{}}, {{}, {}}, {{Authority: 1}}, {{Seq: 1}}, {{Time: 1}}, {{Digest: 1}}, {{Mark: 1}}, {{Mark: 1}, {}}, {{}, {Mark: 1}}, {{Mark: -1}}, {{Seq: 1, Time: 23}}, {{Seq: 12, Time: 3}}}
 	checkJoined(t, impl.Evidence{}, impl.Evidence{Fresh: lists}, impl.Evidence{Fresh: lists})
 	checkJoined(t, impl.Evidence{Fresh: lists}, impl.Evidence{Fresh: lists}, impl.Evidence{Fresh: lists})
+}
+
+// A list is added although there is a strand that, written one number after the other, looks like it: with a length of 103, the number of the kind of stamps.
+func TestJoinEvidenceOfStrandThatLooksLikeStamps(t *testing.T) {
+	var s impl.Strand
+	for i := range 103 {
+		s.Pieces = append(s.Pieces, piece(0, 103*(i%2)))
+	}
+	s.Pieces[102].Ints = []int{0, 0}
+	list := append(make([]impl.Stamp, 51), impl.Stamp{Authority: 2})
+	want := impl.Evidence{Strands: []impl.Strand{s}, Fresh: [][]impl.Stamp{list}}
+	checkJoined(t, impl.Evidence{}, want, want)
+	checkJoined(t, evidenceOf(s), impl.Evidence{Fresh: [][]impl.Stamp{list}}, want)
+	checkJoined(t, impl.Evidence{Fresh: [][]impl.Stamp{list}}, evidenceOf(s), want)
 }
 
 // Joined evidence is no worse: no bound is later, and nothing that was usable is lost.
@@ -434,6 +449,8 @@ func TestFreshFromBirth(t *testing.T) {
 	odd.Keys = []impl.Key{key(11, 1, 1, -8, 5), key(11, 1, 1, 30, 5), key(12, 1, 1, 20000, 5)}
 	checkFresh(t, odd, nil, nil, signature(11, 5, 2, 7, 1, 0, 0, 0), -8)
 	checkFresh(t, odd, nil, nil, signature(12, 5, 2, 7, 1, 0, 0, 0), 20000)
+	apart := []impl.Stamp{stampBy(2, 1, 40, 5), stampBy(3, 1, 50, 5)}
+	checkFresh(t, odd, [][]impl.Stamp{apart, {}}, []impl.Piece{impl.StampPiece(32, apart[0]), impl.StampPiece(33, apart[1])}, afterStamps(11, 2, apart), -8)
 	checkFresh(t, odd, [][]impl.Stamp{freshList}, freshPieces, afterStamps(11, 2, freshList), 10)
 }
 
@@ -464,6 +481,12 @@ func TestFreshFromStamps(t *testing.T) {
 		checkFresh(t, f, one, usable, x, 5)
 	}
 	checkFresh(t, f, one, []impl.Piece{freshPieces[1], keptPieces(0)[1], freshPieces[0], freshPieces[0]}, x, 10)
+	// The least digest that stamps can have.
+	least := stamp(2, 1, 70, 5)
+	for mark := 1 - 13 - hashSlowly([]int{7, 2})*1000003; impl.StampsDigest(2, []impl.Stamp{least}) != 1; mark++ {
+		least.Mark = impl.Mod(mark, impl.Modulus)
+	}
+	checkFresh(t, f, [][]impl.Stamp{{least}}, []impl.Piece{impl.StampPiece(32, least)}, signature(11, 5, 2, 7, 1, 0, 0, 1), 69)
 	// Usable is what the argument says, also if the stamp does not check.
 	forged := []impl.Stamp{stamp(2, 1, 70, 5)}
 	checkFresh(t, f, [][]impl.Stamp{forged}, []impl.Piece{impl.StampPiece(32, forged[0])}, afterStamps(11, 2, forged), 69)

@@ -149,6 +149,10 @@ func TestJudge(t *testing.T) {
 	checkVerdict(t, centuryFrame(119, 0), evidenceOf(keptStrand(0)), x, verdict(1, 0, span(5, 28)))
 	// With a liar, it is not so sure how early the stamps were made.
 	checkVerdict(t, centuryFrame(90, 1), evidenceOf(keptStrand(0)), x, verdict(1, 0, span(5, 29)))
+	// By the first of all keys, and by another one.
+	first, other := signedOf(1, 2, 0, 0), signedOf(33, 2, 0, 0)
+	checkVerdict(t, centuryFrame(20, 0), bareWith(impl.SignPiece(first), impl.CertPiece(certOf(5, 1, 90, 0, 60, 2)), impl.StatusPiece(statusOf(5, 29, -1, 2))), first, verdict(1, 0, span(0, 20)))
+	checkVerdict(t, centuryFrame(20, 0), bareWith(impl.SignPiece(other), impl.CertPiece(certOf(5, 33, 83, 0, 60, 2)), impl.StatusPiece(statusOf(5, 29, -1, 2))), other, verdict(1, 0, span(10, 20)))
 	// At first nothing has to be renewed.
 	checkVerdict(t, centuryFrame(29, 0), bareWith(keptPieces(0)...), x, verdict(1, 0, span(5, 29)))
 	checkVerdict(t, centuryFrame(30, 0), bareWith(keptPieces(0)...), x, verdict(3, 7, span(5, 30)))
